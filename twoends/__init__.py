@@ -1,0 +1,1 @@
+"""One end of a tunnel between two, with WireGuard's messages."""
